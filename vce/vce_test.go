@@ -110,7 +110,7 @@ func TestWriteAddrTable(t *testing.T) {
 	}
 }
 
-// TestWriteColour: P12.1, at 4 the lowest eight bits of the colour at Addr, and Addr stays; at 5 its ninth, and Addr goes on.
+// TestWriteColour: P12.1, at 4 the lowest eight bits of the colour at Addr, and Addr does not go on; at 5 its ninth, and Addr goes on.
 func TestWriteColour(t *testing.T) {
 	for _, addr := range values {
 		here := modulo(addr, 512)
@@ -119,6 +119,7 @@ func TestWriteColour(t *testing.T) {
 			for _, b := range values {
 				low := v
 				low.Table[here] = modulo(c, 512)/256*256 + modulo(b, 256)
+				low.Addr = here
 				see(t, "Write at 4", []int{addr, c, b}, Write(v, 4, b), low)
 				high := v
 				high.Table[here] = modulo(c, 256) + odd(b)*256
@@ -139,13 +140,36 @@ func TestWriteColourTable(t *testing.T) {
 		{3, 512, 4, 7, 3, 7, 3}, {3, 768, 4, 7, 3, 263, 3}, {3, 513, 5, 0, 3, 1, 4}, {3, -1, 4, 0, 3, 256, 3}, {3, -512, 4, 9, 3, 9, 3}, {3, -1, 5, 0, 3, 255, 4},
 		{3, math.MaxInt, 4, 0, 3, 256, 3}, {3, math.MaxInt, 5, 0, 3, 255, 4}, {3, math.MinInt, 4, 0, 3, 0, 3}, {3, math.MinInt, 5, 1, 3, 256, 4},
 		{3, 0, 4, -1, 3, 255, 3}, {3, 0, 4, 256, 3, 0, 3}, {3, 0, 4, math.MaxInt, 3, 255, 3}, {3, 9, 4, math.MinInt, 3, 0, 3}, {3, 0, 5, math.MaxInt, 3, 256, 4}, {3, 511, 5, math.MinInt, 3, 255, 4},
-		{512, 0, 4, 8, 0, 8, 512}, {-1, 0, 4, 8, 511, 8, -1}, {math.MaxInt, 0, 4, 8, 511, 8, math.MaxInt}, {math.MinInt, 0, 4, 8, 0, 8, math.MinInt},
+		{512, 0, 4, 8, 0, 8, 0}, {-1, 0, 4, 8, 511, 8, 511}, {math.MaxInt, 0, 4, 8, 511, 8, 511}, {math.MinInt, 0, 4, 8, 0, 8, 0},
 	} {
 		v := with(c.addr, c.colour)
 		want := v
 		want.Table[c.place] = c.want
 		want.Addr = c.next
 		see(t, "Write", []int{c.addr, c.colour, c.at, c.b}, Write(v, c.at, c.b), want)
+	}
+}
+
+// TestAddrUsed: P12.1, "Addr, where it is written or used", is modulo 512: behind a write at 4 it is used, and is so; behind one at 0 or elsewhere it is neither, and stays.
+func TestAddrUsed(t *testing.T) {
+	for addr, want := range map[int]int{
+		0: 0, 1: 1, 255: 255, 256: 256, 510: 510, 511: 511,
+		512: 0, 513: 1, 1023: 511, 1024: 0, 65535: 511, -1: 511, -2: 510, -511: 1, -512: 0, -513: 511,
+		math.MaxInt: 511, math.MaxInt - 511: 0, math.MinInt: 0, math.MinInt + 1: 1,
+	} {
+		if got := Write(Vce{Addr: addr}, 4, 7).Addr; got != want {
+			t.Errorf("Addr %d behind a write at 4 is %d, want %d", addr, got, want)
+		}
+		for _, at := range append([]int{0}, elsewhere...) {
+			if got := Write(Vce{Addr: addr}, at, 7).Addr; got != addr {
+				t.Errorf("Addr %d behind a write at %d is %d", addr, at, got)
+			}
+		}
+	}
+	for addr := -1500; addr < 1500; addr++ {
+		if got, want := Write(Vce{Addr: addr}, 4, 7).Addr, modulo(addr, 512); got != want {
+			t.Errorf("Addr %d behind a write at 4 is %d, want %d", addr, got, want)
+		}
 	}
 }
 

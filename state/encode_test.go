@@ -13,6 +13,8 @@ import (
 	"phosphor/bus"
 	"phosphor/card"
 	"phosphor/console"
+	"phosphor/mpr"
+	"phosphor/psg"
 	"phosphor/timer"
 	"phosphor/timing"
 	"phosphor/vram"
@@ -29,13 +31,40 @@ func TestSize(t *testing.T) {
 	}
 }
 
-// TestEncodeNone: P27.2, ErrNil of nil, and of consoles that no call made.
+// TestEncodeNone: P27.2, ErrNil of nil, and of consoles that no call made, nor their machines, whatever fields are set; nothing is changed.
 func TestEncodeNone(t *testing.T) {
+	made := rich(t, 1)
 	bare := rich(t, 1)
 	bare.Bus = nil
-	for k, x := range []*console.Console{nil, {}, {Tick: 5}, bare} {
-		if b, e := Encode(x); e != api.ErrNil || len(b) != 0 {
-			t.Errorf("console %d: %v, and %d bytes", k, e, len(b))
+	laid := timing.Geometry{Width: 264, Top: 20, Bottom: 250, Blank: 250, Lines: 262}
+	for _, r := range []struct {
+		name string
+		x    *console.Console
+	}{
+		{"nil", nil},
+		{"plain", &console.Console{}},
+		{"a Tick", &console.Console{Tick: 5}},
+		{"no machine", bare},
+		{"a plain machine", &console.Console{Bus: &bus.Bus{}}},
+		{"a plain machine, and a Tick", &console.Console{Bus: &bus.Bus{}, Tick: 5}},
+		{"a plain machine, and numbers that may not be", &console.Console{Bus: &bus.Bus{Lag: 1, Latch: -1}, Back: -1, Wait: -1}},
+		{"a plain machine, and a Core", &console.Console{Bus: &bus.Bus{}, Core: made.Core}},
+		{"a plain machine, and a Geometry", &console.Console{Bus: &bus.Bus{}, Geometry: laid}},
+		{"a machine with a card", &console.Console{Bus: &bus.Bus{Card: made.Bus.Card}}},
+		{"a machine with a card that no call made", &console.Console{Bus: &bus.Bus{Card: &card.Card{}}}},
+		{"a machine with a video memory", &console.Console{Bus: &bus.Bus{Video: bus.Video{Vram: vram.New()}}}},
+		{"a machine with both", &console.Console{Bus: &bus.Bus{Card: made.Bus.Card, Video: bus.Video{Vram: vram.New()}}, Geometry: laid}},
+		{"a machine that holds a byte", &console.Console{Bus: &bus.Bus{Hold: 255, Ram: made.Bus.Ram}}},
+	} {
+		var before *image
+		if r.x != nil {
+			before = imageOf(r.x)
+		}
+		if b, e := Encode(r.x); e != api.ErrNil || len(b) != 0 {
+			t.Errorf("%s: %v, and %d bytes", r.name, e, len(b))
+		}
+		if r.x != nil && *before != *imageOf(r.x) {
+			t.Errorf("%s: it is changed", r.name)
 		}
 	}
 }
@@ -89,8 +118,9 @@ func TestEncodeInvalidParts(t *testing.T) {
 		{"a card that no call made", func(x *console.Console) { x.Bus.Card = &card.Card{} }},
 		{"no video memory", func(x *console.Console) { x.Bus.Vram = nil }},
 		{"a video memory that no call made", func(x *console.Console) { x.Bus.Vram = &vram.Vram{} }},
-		{"a machine that no call made", func(x *console.Console) { x.Bus = &bus.Bus{} }},
-		{"all but a machine that a call made", func(x *console.Console) { *x = console.Console{Bus: &bus.Bus{}} }},
+		{"neither card nor video memory", func(x *console.Console) { x.Bus.Card, x.Bus.Vram = nil, nil }},
+		{"a plain sound", func(x *console.Console) { x.Bus.Psg = psg.Psg{} }},
+		{"no card, and a plain mapping", func(x *console.Console) { x.Bus.Card, x.Bus.File = nil, mpr.File{} }},
 		{"a machine alone", func(x *console.Console) { *x = console.Console{Bus: x.Bus} }},
 		{"Lag 1", func(x *console.Console) { x.Bus.Lag = 1 }},
 		{"Lag -1", func(x *console.Console) { x.Bus.Lag = -1 }},
